@@ -32,6 +32,15 @@ func (d *dice) pol(terms int, most int) []impl.PolTerm {
 	return fromNumbers(numbers)
 }
 
+// form rolls an operator without slopes.
+func (d *dice) form(terms int, most int) []impl.PolTerm {
+	numbers := map[impl.MonMon]int{}
+	for range d.roll(terms + 1) {
+		numbers[impl.MonMon{X: d.roll(most + 1), Y: d.roll(most + 1)}] = 1 + d.roll(impl.FldP-1)
+	}
+	return fromNumbers(numbers)
+}
+
 // fromNumbers is the operator with these numbers taken by FldP, sorted without the program.
 func fromNumbers(numbers map[impl.MonMon]int) []impl.PolTerm {
 	var p []impl.PolTerm
@@ -136,6 +145,26 @@ func scribble(p []impl.PolTerm) {
 	p = p[:cap(p)]
 	for i := range p {
 		p[i] = impl.PolTerm{C: -99, M: impl.MonMon{X: -9}}
+	}
+}
+
+// wantNewMemory asks that what a call answers of two operators shares nothing with them, nor with what it answers again, and that both stay as they are.
+func wantNewMemory(t *testing.T, a []impl.PolTerm, b []impl.PolTerm, name string, call func(a []impl.PolTerm, b []impl.PolTerm) []impl.PolTerm) {
+	t.Helper()
+	aArg, bArg := roomy(a), roomy(b)
+	first := call(aArg, bArg)
+	kept := slices.Clone(first)
+	second := call(aArg, bArg)
+	scribble(second)
+	wantUntouched(t, aArg, a, name)
+	wantUntouched(t, bArg, b, name)
+	if !slices.Equal(first, kept) {
+		t.Fatalf("%s: two answers share memory", name)
+	}
+	scribble(aArg[:len(aArg):len(aArg)])
+	scribble(bArg[:len(bArg):len(bArg)])
+	if !slices.Equal(first, kept) {
+		t.Fatalf("%s: an answer shares memory with an argument", name)
 	}
 }
 

@@ -605,21 +605,7 @@ func TestPolNewMemory(t *testing.T) {
 			},
 		}
 		for name, call := range calls {
-			aArg, bArg := roomy(a), roomy(b)
-			first := call(aArg, bArg)
-			kept := slices.Clone(first)
-			second := call(aArg, bArg)
-			scribble(second)
-			wantUntouched(t, aArg, a, name)
-			wantUntouched(t, bArg, b, name)
-			if !slices.Equal(first, kept) {
-				t.Fatalf("%s: two answers share memory", name)
-			}
-			scribble(aArg[:len(aArg):len(aArg)])
-			scribble(bArg[:len(bArg):len(bArg)])
-			if !slices.Equal(first, kept) {
-				t.Fatalf("%s: an answer shares memory with an argument", name)
-			}
+			wantNewMemory(t, a, b, name, call)
 		}
 	}
 }
