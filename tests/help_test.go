@@ -1,6 +1,7 @@
 package tests
 
 import (
+	"maps"
 	"slices"
 	"strconv"
 	"testing"
@@ -189,6 +190,18 @@ func badPols() map[string][]impl.PolTerm {
 		"E below 0":          {{C: 1, M: x}, {C: 1, M: impl.MonMon{E: -1}}},
 		"too many":           manyTerms(impl.PolMax + 1),
 	}
+}
+
+// allBadPols are terms that are no operator, with each wrong number and each wrong monomial, at the first and at the last place.
+func allBadPols() [][]impl.PolTerm {
+	bads := slices.Collect(maps.Values(badPols()))
+	for _, m := range badMons() {
+		bads = append(bads, []impl.PolTerm{{C: 1, M: m}}, []impl.PolTerm{{C: 1, M: impl.MonMon{D: 1}}, {C: 1, M: m}})
+	}
+	for _, c := range badNumbers {
+		bads = append(bads, []impl.PolTerm{{C: c, M: impl.MonMon{D: 1}}}, []impl.PolTerm{{C: 1, M: impl.MonMon{D: 1}}, {C: c}})
+	}
+	return bads
 }
 
 // manyTerms is an operator of so many terms (of at most 4096: more than may be), each with number 1; the first 256 of the monomials that it counts through have no slopes.

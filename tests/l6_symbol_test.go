@@ -1,7 +1,6 @@
 package tests
 
 import (
-	"maps"
 	"math"
 	"slices"
 	"testing"
@@ -288,14 +287,7 @@ func TestPolFreeByFilOrder(t *testing.T) {
 }
 
 func TestFilWrong(t *testing.T) {
-	bads := slices.Collect(maps.Values(badPols()))
-	for _, m := range badMons() {
-		bads = append(bads, []impl.PolTerm{{C: 1, M: m}}, []impl.PolTerm{{C: 1, M: impl.MonMon{D: 1}}, {C: 1, M: m}})
-	}
-	for _, c := range badNumbers {
-		bads = append(bads, []impl.PolTerm{{C: c, M: impl.MonMon{D: 1}}}, []impl.PolTerm{{C: 1, M: impl.MonMon{D: 1}}, {C: c}})
-	}
-	for _, bad := range bads {
+	for _, bad := range allBadPols() {
 		wantInt(t, impl.FilOrder(bad), -1, "FilOrder of what is not ok")
 		wantInt(t, impl.FilDegree(bad), -1, "FilDegree of what is not ok")
 		wantPol(t, impl.FilSymbol(bad), nil, "FilSymbol of what is not ok")
