@@ -142,6 +142,16 @@ func loose(t *testing.T, text string) []impl.PolTerm {
 	return fromNumbers(numbers)
 }
 
+// looseOps reads operators whose terms a test writes down in any order.
+func looseOps(t *testing.T, texts ...string) [][]impl.PolTerm {
+	t.Helper()
+	var list [][]impl.PolTerm
+	for _, text := range texts {
+		list = append(list, loose(t, text))
+	}
+	return list
+}
+
 // list rolls up to so many operators, none of them 0.
 func (d *dice) list(most int, terms int, counts int) [][]impl.PolTerm {
 	var list [][]impl.PolTerm

@@ -199,11 +199,7 @@ func TestRedAllAtMonMax(t *testing.T) {
 		{impl.OrdLex, "xy", []string{"x2+y15"}, true}, {impl.OrdLex, "0", []string{"x+y15"}, true},
 	} {
 		p := loose(t, c.p)
-		var list [][]impl.PolTerm
-		for _, text := range c.list {
-			list = append(list, loose(t, text))
-		}
-		want := wantDivision(t, c.order, p, list)
+		want := wantDivision(t, c.order, p, looseOps(t, c.list...))
 		if want.ok() != c.ok || want.pastMon == c.ok {
 			t.Fatalf("RedAll(%d) of %s by %v is %v", c.order, c.p, c.list, want.ok())
 		}

@@ -145,10 +145,7 @@ func TestGrbMakeWithAPairTooMuch(t *testing.T) {
 		// The pair is not too much, its division is.
 		{[]string{"x+y15", "xd+xy"}, 1, nil, divTooMuch}, {[]string{"e", "x+y15", "xd+xy"}, 3, []string{"86y14"}, divTooMuch},
 	} {
-		var given [][]impl.PolTerm
-		for _, text := range c.given {
-			given = append(given, loose(t, text))
-		}
+		given := looseOps(t, c.given...)
 		made := wantMade(t, impl.OrdLex, given, impl.GrbMaxFuel)
 		if made.why != c.why || len(made.looked) != c.pairs || !sameList(made.list[len(given):], ops(t, c.added...)) {
 			t.Fatalf("%v comes to %s, by %d pairs, and ends because %s", c.given, listText(made.list), len(made.looked), made.why)

@@ -104,11 +104,7 @@ func TestGrbOkByHand(t *testing.T) {
 		{impl.OrdLex, []string{"d+x14", "x+1", "1"}, true}, {impl.OrdLex, []string{"d+x15", "x+1", "1"}, false}, {impl.OrdLex, []string{"1", "d+x15", "x+1"}, false}, {impl.OrdLex, []string{"x+1", "1", "d+x15"}, false},
 		{impl.OrdLex, []string{"x+y15", "xd+xy"}, false}, {impl.OrdLex, []string{"x+y15", "1", "xd+xy"}, false}, {impl.OrdLex, []string{"1", "x+y15", "xd+xy"}, true},
 	} {
-		var list [][]impl.PolTerm
-		for _, text := range c.list {
-			list = append(list, loose(t, text))
-		}
-		if wantBasis(t, c.order, list) != c.want {
+		if wantBasis(t, c.order, looseOps(t, c.list...)) != c.want {
 			t.Fatalf("GrbOk(%d) of %v is not %v", c.order, c.list, c.want)
 		}
 	}
